@@ -1,0 +1,1 @@
+"""Sameround: programs of rounds over letters that come late."""
