@@ -7,10 +7,17 @@ import unittest
 INTERFACE = {
     "webs": ["Web", "neighbours", "far", "width"],
     "programs": ["Program"],
+    "lockstep": ["start_cells", "sayings", "next_cells", "lockstep", "many_said"],
+    "known": ["tree_program", "least_program", "walk_program"],
+    "keepers": ["Keeper", "Course", "alpha", "beta", "gamma", "clusters", "leader_of", "depth",
+                "words_a_round", "is_keeper"],
+    "states": ["begun", "is_word", "is_state", "started", "heard"],
 }
 METHODS = {
     "Web": ["__eq__", "__init__"],
     "Program": ["__eq__", "__init__"],
+    "Keeper": ["__eq__", "__init__"],
+    "Course": ["__eq__", "__init__"],
 }
 
 

@@ -1,57 +1,12 @@
 """Webs [1.1]."""
 
-import random
 import unittest
 
 from sameround.errors import BadWeb, NoHouse
 from sameround.webs import Web, far, neighbours, width
 
-from tests.helpers import no_integers, no_tuples, raised, small_program
-
-
-def row(many):
-    return Web(many, tuple((k, k + 1) for k in range(many - 1)))
-
-
-def star(many):
-    return Web(many, tuple((0, k) for k in range(1, many)))
-
-
-def ring(many):
-    return Web(many, tuple(sorted([(k, k + 1) for k in range(many - 1)] + [(0, many - 1)])))
-
-
-def full(many):
-    return Web(many, tuple((a, b) for a in range(many) for b in range(a + 1, many)))
-
-
-def grown(many, more, seed):
-    """A tree of houses that are tied to any earlier one, with some more ties."""
-    chance = random.Random(seed)
-    ties = {(chance.randrange(k), k) for k in range(1, many)}
-    for _ in range(more):
-        ties.add(tuple(sorted(chance.sample(range(many), 2))))
-    return Web(many, tuple(sorted(ties)))
-
-
-def webs():
-    made = [Web(1, ()), Web(2, ((0, 1),)), full(3), full(7), full(40)]
-    for many in (3, 4, 10, 39, 40):
-        made.extend([row(many), star(many), ring(many)])
-        made.extend([grown(many, more, many * 10 + more) for more in (0, 1, 2, 5, 20)])
-    return made
-
-
-def counted(web):
-    """All distances, by going through each house in turn."""
-    away = {(a, b): 0 if a == b else 1000 for a in range(web.many) for b in range(web.many)}
-    for a, b in web.ties:
-        away[a, b] = away[b, a] = 1
-    for through in range(web.many):
-        for a in range(web.many):
-            for b in range(web.many):
-                away[a, b] = min(away[a, b], away[a, through] + away[through, b])
-    return away
+from tests.helpers import (
+    counted, full, grown, no_integers, no_tuples, raised, ring, row, small_program, star, webs)
 
 
 class Right(unittest.TestCase):
