@@ -199,3 +199,131 @@ def hear(course, house, state, sender, word):
         return None
     model.hear(sender, word)
     return model.state(), tuple(model.out)
+
+
+def first_glass(course):
+    web = course.keeper.web
+    return (tuple(("asleep", 0, starts(web, course.program, house), 0, (), (), (), ())
+                  for house in range(web.many)), ())
+
+
+def moves(glass):
+    """What can be next, as the document lists it."""
+    asleep = [("start", house) for house, state in enumerate(glass[0]) if state[0] == "asleep"]
+    return sorted(asleep) + sorted([("take", way[0], way[1]) for way in glass[1]])
+
+
+def moved(course, glass, move):
+    """The glass behind a move, None if its word can't be heard then."""
+    states, ways = list(glass[0]), {way[:2]: list(way[2]) for way in glass[1]}
+    if move[0] == "start":
+        house = move[1]
+        told = start(course, house, states[house])
+    else:
+        house = move[2]
+        told = hear(course, house, states[house], move[1], ways[move[1:]].pop(0))
+    if told is None:
+        return None
+    states[house] = told[0]
+    for other, word in told[1]:
+        ways[house, other] = ways.get((house, other), []) + [word]
+    return (tuple(states), tuple((*way, tuple(ways[way])) for way in sorted(ways) if ways[way]))
+
+
+def broken(course, glass):
+    """The words of the sums that do not hold."""
+    states, ways = glass
+    web = course.keeper.web
+    rows, _ = rounds(web, course.program, course.goal)
+    way_words = [(way[0], way[1], word) for way in ways for word in way[2]]
+    words = []
+    if [1 for a in range(web.many) for b in beside(web, a) if states[a][1] > states[b][1] + 1]:
+        words.append("rounds")
+    for house in range(web.many):
+        said = [1 for sender, _, word in way_words if sender == house and word[0] == "said"]
+        gots = [1 for _, to, word in way_words if to == house and word[0] == "got"]
+        if len(said) + len(gots) != states[house][3] and "gots" not in words:
+            words.append("gots")
+    if [1 for _, to, word in way_words if word[0] == "said" and states[to][1] > word[1]]:
+        words.append("early")
+    if [1 for house, state in enumerate(states) if state[2] != rows[state[1]][house]]:
+        words.append("cells")
+    return tuple(words)
+
+
+def run(course, choices):
+    """The list of the moves of a run, and that of the glasses ahead of each, and behind the last."""
+    glasses, done = [first_glass(course)], []
+    while moves(glasses[-1]):
+        can_be = moves(glasses[-1])
+        choice = choices[len(done)] if len(done) < len(choices) else 0
+        done.append(can_be[choice % len(can_be)])
+        glasses.append(moved(course, glasses[-1], done[-1]))
+    return done, glasses
+
+
+def beats(course):
+    """How many beats it takes, by lists of all words on their way that are emptied beat by beat."""
+    glass, many = first_glass(course), 0
+    for house in range(course.keeper.web.many):
+        glass = moved(course, glass, ("start", house))
+    while {state[0] for state in glass[0]} != {"over"}:
+        for sender, house, words in glass[1]:
+            for _ in words:
+                glass = moved(course, glass, ("take", sender, house))
+        many += 1
+    return many
+
+
+class Tale:
+    """A record, told by lists of all that was ever said and heard."""
+
+    def __init__(self, record):
+        self.record, self.web = record, record.web
+        self.rows, self.told = rounds(record.web, record.program, record.goal)
+        self.said, self.heard, self.done = [], [], []
+        self.causes, self.before = [], []
+
+    def entered(self, house):
+        return self.done.count(("enter", house))
+
+    def on_way(self, sender, house):
+        """What is on its way: all that was said but what was heard already."""
+        said = [item for item in self.said if item[:2] == (sender, house)]
+        return said[len([item for item in self.heard if item[:2] == (sender, house)]):]
+
+    def wrong(self, event):
+        house = event[1]
+        if event[0] == "hear":
+            return None if self.on_way(event[2], house) else "empty"
+        count = self.entered(house)
+        if count == self.record.goal + 1:
+            return "over"
+        if count:
+            due = {n for n in beside(self.web, house) if house in self.told[count - 1][n]}
+            if due - {sender for sender, to, at, _, _ in self.heard if to == house and at == count - 1}:
+                return "early"
+        counts = [self.entered(k) + (k == house) for k in range(self.web.many)]
+        if [1 for a, b in self.web.ties if not -2 < counts[a] - counts[b] < 2]:
+            return "apart"
+        return None
+
+    def do(self, event):
+        house, index = event[1], len(self.done)
+        direct = {max([k for k, other in enumerate(self.done) if other[1] == house], default=index)} - {index}
+        if event[0] == "hear":
+            item = self.on_way(event[2], house)[0]
+            self.heard.append(item)
+            direct.add(item[4])
+        else:
+            at = self.entered(house)
+            if at < self.record.goal:
+                for other, number in sorted(self.told[at][house].items()):
+                    self.said.append((house, other, at, number, index))
+        self.done.append(event)
+        self.causes.append(tuple(sorted(direct)))
+        self.before.append({index}.union(*[self.before[k] for k in direct]))
+
+    def vector(self, index):
+        return tuple(len([k for k in self.before[index] if self.done[k][1] == house])
+                     for house in range(self.web.many))

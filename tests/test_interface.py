@@ -1,6 +1,7 @@
 """The interface of the modules that are there: each name in its own file, each method in its class."""
 
 import importlib
+import inspect
 import unittest
 
 # The functions and classes of each file; the errors have a test of their own.
@@ -12,12 +13,30 @@ INTERFACE = {
     "keepers": ["Keeper", "Course", "alpha", "beta", "gamma", "clusters", "leader_of", "depth",
                 "words_a_round", "is_keeper"],
     "states": ["begun", "is_word", "is_state", "started", "heard"],
+    "glass": ["first_glass", "moved", "is_glass", "moves", "broken", "run_out", "all_words", "beats"],
+    "records": ["Record", "first_wrong", "entered", "cells_then", "on_way", "causes", "vectors",
+                "longest_chain", "recorded"],
+    "links": ["Outgoing", "outgoing_of", "Incoming", "incoming_of"],
 }
 METHODS = {
     "Web": ["__eq__", "__init__"],
     "Program": ["__eq__", "__init__"],
     "Keeper": ["__eq__", "__init__"],
     "Course": ["__eq__", "__init__"],
+    "Record": ["__eq__", "__init__"],
+    "Outgoing": ["__init__", "put", "known", "many_put", "waiting", "state", "copy"],
+    "Incoming": ["__init__", "take", "taken", "held", "state", "copy"],
+}
+# How many arguments each of them takes, but for the object itself.
+ARGUMENTS = {
+    "Web": 2, "neighbours": 2, "far": 3, "width": 1, "Program": 4, "start_cells": 3, "sayings": 5,
+    "next_cells": 6, "lockstep": 3, "many_said": 3, "tree_program": 1, "least_program": 0,
+    "walk_program": 1, "Keeper": 3, "Course": 3, "alpha": 1, "beta": 1, "gamma": 2, "clusters": 1,
+    "leader_of": 2, "depth": 1, "words_a_round": 1, "is_keeper": 2, "begun": 2, "is_word": 1,
+    "is_state": 3, "started": 3, "heard": 5, "first_glass": 1, "moved": 3, "is_glass": 2, "moves": 2,
+    "broken": 2, "run_out": 2, "all_words": 1, "beats": 1, "Record": 4, "first_wrong": 1, "entered": 2,
+    "cells_then": 2, "on_way": 2, "causes": 1, "vectors": 1, "longest_chain": 1, "recorded": 2,
+    "Outgoing": 0, "outgoing_of": 1, "Incoming": 0, "incoming_of": 1,
 }
 
 
@@ -28,6 +47,15 @@ class Interface(unittest.TestCase):
             for name in names:
                 with self.subTest(name):
                     self.assertEqual(getattr(module, name).__module__, f"sameround.{file}")
+
+    def test_each_takes_its_arguments(self):
+        self.assertEqual(sorted(ARGUMENTS), sorted([name for names in INTERFACE.values() for name in names]))
+        for file, names in INTERFACE.items():
+            module = importlib.import_module(f"sameround.{file}")
+            for name in names:
+                with self.subTest(name):
+                    taken = inspect.signature(getattr(module, name)).parameters
+                    self.assertEqual(len(taken), ARGUMENTS[name])
 
     def test_each_method_stands_in_its_class(self):
         for file, names in INTERFACE.items():

@@ -253,9 +253,11 @@ class Lockstep(unittest.TestCase):
                     self.check(web, program, many)
 
     def test_forty_rounds(self):
-        for web in (Web(1, ()), row(2), full(3), ring(5), full(40)):
-            for program in programs()[:3 if web.many > 9 else 4]:
+        for web in (Web(1, ()), row(2), full(3), ring(5), star(40)):
+            for program in programs():
                 self.check(web, program, 40)
+        self.check(full(40), quiet_program(), 3)
+        self.check(full(40), small_program(), 40)
         self.assertEqual(len(lockstep(Web(1, ()), small_program(), 40)), 41)
         self.assertEqual(many_said(row(3), small_program(), 40), 160)
 

@@ -461,6 +461,11 @@ class Rows(unittest.TestCase):
         state = ("up", 1, (2,), 0, ((1, 1, -3),), (), (), ())
         self.assertEqual(heard(course, 2, state, 1, ("go", 1)), (("over", 2, (-3,), 0, (), (), (), ()), ()))
 
+    def test_over_owes_nothing(self):
+        # Who is over says nothing, so nothing of it is without an answer.
+        state = ("up", 1, (2,), 4, (), (), (), ())
+        self.assertEqual(heard(example(), 2, state, 1, ("go", 1))[0], ("over", 2, (0,), 0, (), (), (), ()))
+
     def test_several_rounds_at_once(self):
         # The neighbour, which has nothing to wait for but next, told of two rounds ahead of this one.
         course = Course(silent_program(), alpha(row(2)), 3)
