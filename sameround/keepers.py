@@ -3,7 +3,7 @@
 from sameround.errors import BadKeeper, NoHouse, NoNumber, TooMany
 from sameround.kinds import is_ascending, is_number_below, is_plain_int
 from sameround.lockstep import MOST_ROUNDS, lockstep
-from sameround.webs import is_tie, neighbours, steps_from
+from sameround.webs import houses_beside, is_tie, neighbours, steps_from
 
 MOST_ON_COURSE = 8
 
@@ -23,7 +23,7 @@ class Keeper:
         # Kept because each word that a house hears asks for them.
         self._leaders = leaders
         self._children = children_by(parents)
-        self._across = across_by(web.many, chosen)
+        self._across = houses_beside(web.many, chosen)
 
     def __eq__(self, other):
         return (isinstance(other, Keeper) and self.web == other.web
@@ -82,15 +82,6 @@ def children_by(parents):
     many = len(parents)
     return tuple([tuple([child for child in range(many) if parents[child] == house])
                   for house in range(many)])
-
-
-def across_by(many, chosen):
-    """For each house the lot of those with whom it has a chosen tie."""
-    across = [[] for _ in range(many)]
-    for low, high in chosen:
-        across[low].append(high)
-        across[high].append(low)
-    return tuple([tuple(sorted(houses)) for houses in across])
 
 
 def crossed_by(leaders, tie):

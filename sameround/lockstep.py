@@ -146,25 +146,25 @@ def start_cells(web, program, house):
     return starts_come_to(web, program, house)
 
 
-def sayings(web, program, house, at, cells):
-    """The ascending tuple of the pairs of a neighbour and what the house says to it in a round."""
+def check_round(web, program, house, at, cells):
+    """Refuse what is no house, no round, or nothing that a house can know."""
     if not is_number_below(web.many, house):
         raise NoHouse()
     if not is_number_below(MOST_ROUND + 1, at):
         raise NoNumber()
     if not are_cells(program, cells):
         raise NoCells()
+
+
+def sayings(web, program, house, at, cells):
+    """The ascending tuple of the pairs of a neighbour and what the house says to it in a round."""
+    check_round(web, program, house, at, cells)
     return sayings_come_to(web, program, house, at, cells)
 
 
 def next_cells(web, program, house, at, cells, numbers):
     """What a house knows behind a round in which these numbers were said to it."""
-    if not is_number_below(web.many, house):
-        raise NoHouse()
-    if not is_number_below(MOST_ROUND + 1, at):
-        raise NoNumber()
-    if not are_cells(program, cells):
-        raise NoCells()
+    check_round(web, program, house, at, cells)
     if not are_smalls(numbers) or len(numbers) > MOST_SAID:
         raise NoSayings()
     return nexts_come_to(web, program, house, at, cells, numbers)
