@@ -17,6 +17,11 @@ INTERFACE = {
     "records": ["Record", "first_wrong", "entered", "cells_then", "on_way", "causes", "vectors",
                 "longest_chain", "recorded"],
     "links": ["Outgoing", "outgoing_of", "Incoming", "incoming_of"],
+    "rows": ["row_of", "sealed", "parcel_of", "is_parcel", "mark", "unsealed"],
+    "disks": ["Disk", "kept_parcels"],
+    "posts": ["Post", "post_of"],
+    "texts": ["web_text", "program_text", "keeper_text", "course_text", "read_web", "read_program",
+              "read_keeper", "read_course"],
 }
 METHODS = {
     "Web": ["__eq__", "__init__"],
@@ -26,6 +31,8 @@ METHODS = {
     "Record": ["__eq__", "__init__"],
     "Outgoing": ["__init__", "put", "known", "many_put", "waiting", "state", "copy"],
     "Incoming": ["__init__", "take", "taken", "held", "state", "copy"],
+    "Disk": ["__init__", "write", "sync", "synced", "blocks", "cut", "drop", "copy"],
+    "Post": ["__init__", "state", "past", "letter", "deed", "copy"],
 }
 # How many arguments each of them takes, but for the object itself.
 ARGUMENTS = {
@@ -36,7 +43,10 @@ ARGUMENTS = {
     "is_state": 3, "started": 3, "heard": 5, "first_glass": 1, "moved": 3, "is_glass": 2, "moves": 2,
     "broken": 2, "run_out": 2, "all_words": 1, "beats": 1, "Record": 4, "first_wrong": 1, "entered": 2,
     "cells_then": 2, "on_way": 2, "causes": 1, "vectors": 1, "longest_chain": 1, "recorded": 2,
-    "Outgoing": 0, "outgoing_of": 1, "Incoming": 0, "incoming_of": 1,
+    "Outgoing": 0, "outgoing_of": 1, "Incoming": 0, "incoming_of": 1, "row_of": 1, "sealed": 1,
+    "parcel_of": 1, "is_parcel": 1, "mark": 1, "unsealed": 1, "Disk": 0, "kept_parcels": 1, "Post": 2,
+    "post_of": 3, "web_text": 1, "program_text": 1, "keeper_text": 1, "course_text": 1, "read_web": 1,
+    "read_program": 1, "read_keeper": 1, "read_course": 1,
 }
 
 

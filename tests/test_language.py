@@ -180,6 +180,19 @@ class Rows(unittest.TestCase):
         self.assertEqual(places(others), [])
 
 
+    def test_stars_in_calls_stand_ahead_of_names(self):
+        others = [(name, part) for name, node in nodes(ast.Call) for part in node.args
+                  if isinstance(part, ast.Starred) and not isinstance(part.value, (ast.Name, ast.Attribute))]
+        self.assertEqual(places(others), [])
+
+    def test_super_is_called_for_a_method_at_once(self):
+        taken = [node.func.value for _, node in nodes(ast.Call) if isinstance(node.func, ast.Attribute)]
+        others = [(name, node) for name, node in nodes(ast.Call)
+                  if isinstance(node.func, ast.Name) and node.func.id == "super"
+                  and places([(name, node)]) not in [places([(name, other)]) for other in taken]]
+        self.assertEqual(places(others), [])
+
+
 class Names(unittest.TestCase):
     def test_builtins_that_are_read(self):
         others = [(name, node) for name, node in nodes(ast.Name)
