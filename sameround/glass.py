@@ -16,6 +16,7 @@ class Run:
         self.states = list(states)
         self.ways = {(sender, house): list(words) for sender, house, words in ways}
         self.takes = 0
+        self.done = []
         self.events = []
 
     def glass_there(self):
@@ -31,6 +32,7 @@ class Run:
 
     def do_move(self, move):
         """Do a move that can be next."""
+        self.done.append(move)
         if move[0] == "start":
             self.start(move[1])
         else:

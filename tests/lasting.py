@@ -242,3 +242,126 @@ def behind_blocks(course, me, blocks):
             break
         many += 1
     return post, many
+
+
+class Refused(Exception):
+    pass
+
+
+def number_below(limit, thing):
+    return thing.__class__ is int and 0 <= thing < limit
+
+
+class Net:
+    """Houses, the blocks of their disks, and a bag, by lists that are changed in place."""
+
+    def __init__(self, course):
+        self.course, self.many = course, course.keeper.web.many
+        self.posts = [Post(course, house) for house in range(self.many)]
+        self.blocks = [[first_block(course, house)] for house in range(self.many)]
+        self.synced = [1] * self.many
+        self.bag = []
+
+    def note(self, house, thing, told):
+        if told in (None, "new"):
+            self.blocks[house].append(sealed(("deed", thing)))
+        return told
+
+    def letter(self, house, to):
+        self.synced[house] = len(self.blocks[house])
+        return sealed(self.posts[house].letter(to))
+
+    def start(self, house):
+        return self.note(house, ("start",), self.posts[house].deed(("start",)))
+
+    def hear(self, house, row):
+        return self.note(house, ("hear", row), self.posts[house].hear(row))
+
+    def deed(self, thing):
+        """What a deed returns; Refused for one that can't be done."""
+        try:
+            word, *parts = thing
+            action = {"start": self.do_start, "keep": self.do_keep, "post": self.do_post, "bring": self.do_bring,
+                      "lose": self.do_lose, "double": self.do_double, "spoil": self.do_spoil, "send": self.do_send,
+                      "cut": self.do_cut}[word]
+        except (TypeError, ValueError, KeyError):
+            raise Refused from None
+        if thing.__class__ is not tuple or len(parts) != action.__code__.co_argcount - 1:
+            raise Refused
+        return action(*parts)
+
+    def need(self, good):
+        if not good:
+            raise Refused
+
+    def do_start(self, house):
+        self.need(number_below(self.many, house) and self.posts[house].state[0] == "asleep")
+        return self.start(house)
+
+    def do_keep(self, house):
+        self.need(number_below(self.many, house))
+        self.blocks[house].append(sealed(("past", self.posts[house].past())))
+        self.synced[house] = len(self.blocks[house])
+        return self.synced[house]
+
+    def do_post(self, house, to):
+        self.need(number_below(self.many, house) and number_below(self.many, to) and to in self.posts[house].beside)
+        self.bag.append((to, self.letter(house, to)))
+
+    def do_bring(self, at):
+        self.need(number_below(len(self.bag), at))
+        return self.hear(*self.bag.pop(at))
+
+    def do_lose(self, at):
+        self.need(number_below(len(self.bag), at))
+        self.bag.pop(at)
+
+    def do_double(self, at):
+        self.need(number_below(len(self.bag), at))
+        self.bag.append(self.bag[at])
+
+    def do_spoil(self, at, place, byte):
+        self.need(number_below(len(self.bag), at) and number_below(256, byte))
+        to, row = self.bag[at]
+        self.need(number_below(len(row), place))
+        row = list(row)
+        row[place] = byte
+        self.need(not unsealed(tuple(row)) or tuple(row) == self.bag[at][1])
+        self.bag[at] = (to, tuple(row))
+
+    def do_send(self, to, row):
+        self.need(number_below(self.many, to) and is_row(row) and not unsealed(row))
+        self.bag.append((to, row))
+
+    def do_cut(self, house, kept):
+        self.need(number_below(self.many, house) and kept.__class__ is tuple)
+        waiting = self.blocks[house][self.synced[house]:]
+        self.need(len(kept) == len(waiting))
+        self.need(all(number_below(len(block) + 1, many) for block, many in zip(waiting, kept)))
+        blocks = self.blocks[house][:self.synced[house]]
+        blocks += [block[:many] for block, many in zip(waiting, kept)]
+        self.posts[house], right = behind_blocks(self.course, house, blocks)
+        self.blocks[house], self.synced[house] = blocks[:right], right
+
+    def glass(self):
+        ways = []
+        for house, post in enumerate(self.posts):
+            for to in post.beside:
+                words = post.put[to][max(post.known[to], self.posts[to].taken[house]):]
+                if words:
+                    ways.append((house, to, tuple(words)))
+        return tuple(post.state for post in self.posts), tuple(ways)
+
+    def round_trip(self):
+        for house, post in enumerate(self.posts):
+            if post.state[0] == "asleep":
+                self.start(house)
+        for house in range(self.many):
+            for to in self.posts[house].beside:
+                while len(self.posts[house].put[to]) > self.posts[house].known[to]:
+                    self.hear(to, self.letter(house, to))
+                    self.hear(house, self.letter(to, house))
+
+    def is_settled(self):
+        return all(post.state[0] == "over" and all(post.known[to] == len(post.put[to]) for to in post.beside)
+                   for post in self.posts)

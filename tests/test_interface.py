@@ -22,6 +22,10 @@ INTERFACE = {
     "posts": ["Post", "post_of"],
     "texts": ["web_text", "program_text", "keeper_text", "course_text", "read_web", "read_program",
               "read_keeper", "read_course"],
+    "savings": ["SavedHouse"],
+    "nets": ["Net", "led_by", "round_trip", "settle"],
+    "films": ["Reel", "moves_of", "drawn", "drawn_rounds"],
+    "desks": ["Desk"],
 }
 METHODS = {
     "Web": ["__eq__", "__init__"],
@@ -33,6 +37,10 @@ METHODS = {
     "Incoming": ["__init__", "take", "taken", "held", "state", "copy"],
     "Disk": ["__init__", "write", "sync", "synced", "blocks", "cut", "drop", "copy"],
     "Post": ["__init__", "state", "past", "letter", "deed", "copy"],
+    "SavedHouse": ["__init__", "state", "past", "letter", "deed", "copy", "keep", "moved"],
+    "Net": ["__init__", "house", "disk", "bag", "glass", "deed"],
+    "Reel": ["__init__", "stands", "worked", "glass_now", "seek", "kept", "copy"],
+    "Desk": ["__init__", "tell"],
 }
 # How many arguments each of them takes, but for the object itself.
 ARGUMENTS = {
@@ -46,7 +54,8 @@ ARGUMENTS = {
     "Outgoing": 0, "outgoing_of": 1, "Incoming": 0, "incoming_of": 1, "row_of": 1, "sealed": 1,
     "parcel_of": 1, "is_parcel": 1, "mark": 1, "unsealed": 1, "Disk": 0, "kept_parcels": 1, "Post": 2,
     "post_of": 3, "web_text": 1, "program_text": 1, "keeper_text": 1, "course_text": 1, "read_web": 1,
-    "read_program": 1, "read_keeper": 1, "read_course": 1,
+    "read_program": 1, "read_keeper": 1, "read_course": 1, "SavedHouse": 3, "Net": 1, "led_by": 2,
+    "round_trip": 1, "settle": 2, "Reel": 3, "moves_of": 2, "drawn": 2, "drawn_rounds": 2, "Desk": 0,
 }
 
 
