@@ -289,6 +289,21 @@ class Answers(unittest.TestCase):
         self.assertEqual(made.tell("fall n 1 0"), "ok")
         self.assertEqual(made.tell("rounds n"), "- 0 -")
 
+    def test_falls_amid_three_blocks(self):
+        lines = ("start n 0", "post n 0 1", "start n 2", "post n 2 1", "start n 1", "bring n 0", "bring n 0")
+        deeds = (("start", 0), ("post", 0, 1), ("start", 2), ("post", 2, 1), ("start", 1), ("bring", 0), ("bring", 0))
+        net = Net(Course(small_program(), beta(row(3)), 2))
+        for thing in deeds:
+            net.deed(thing)
+        lengths = [len(block) for block in net.disk(1).blocks()[1:]]
+        self.assertEqual((len(lengths), len(set(lengths[:2]))), (3, 2))
+        for left in range(0, sum(lengths) + 9, 5):
+            made, net = desk(*lines), Net(Course(small_program(), beta(row(3)), 2))
+            for thing in deeds:
+                net.deed(thing)
+            self.fall(made, net, 1, left)
+            self.compare(made, net)
+
     def test_a_walk_by_hand(self):
         made = desk()
         self.assertEqual(made.tell("view n"), "0 : asleep 0 0|1 : asleep 0 1|2 : asleep 0 2|")

@@ -211,7 +211,8 @@ class Deeds(unittest.TestCase):
     def test_no_deeds(self):
         letter = sealed(("letter", 0, 1, 0, ()))
         things = [*no_integers(), *no_tuples(), ("start", 1), ("start", ()), ("hear",), ("hear", letter, 1), ("hear", list(letter)),
-                  ["start"], ["hear", letter], ("keep",), ("", 1), (b"start",), ("Start",), (("start",),), ("hear", (256,)),
+                  ["start"], ["hear", letter], ("heard", letter), ("", letter), (b"hear", letter), (None, letter),
+                  ("keep",), ("", 1), (b"start",), ("Start",), (("start",),), ("hear", (256,)),
                   ("hear", (-1,)), ("hear", (True,)), ("hear", (*letter[:-1], None)), ("hear", (letter,)), "start", ("start",) * 2]
         things.extend([("hear", thing) for thing in [*no_integers(), *no_tuples()] if not lasting.is_row(thing)])
         for post in (Post(example(), 1), self.started()):
